@@ -91,6 +91,82 @@ def new_text(edit, old_text):
     return [octet_of(origin) if is_new(origin) else old_text[origin] for origin in edit.origins]
 
 
+def kept_places(edit):
+    """For each old byte its place in the new text, or None where it is dropped."""
+    places = [None] * edit.old_size
+    for at, origin in enumerate(edit.origins):
+        if not is_new(origin):
+            places[origin] = at
+    return places
+
+
+def new_places(edit):
+    """The places of new bytes in the new text: first those at the beginning, then those behind each old byte.
+
+    Behind a dropped old byte there are none: new bytes belong behind one that their edit keeps.
+    """
+    behind = [[] for p in range(edit.old_size + 1)]
+    gap = 0
+    for at, origin in enumerate(edit.origins):
+        if is_new(origin):
+            behind[gap].append(at)
+        else:
+            gap = origin + 1
+    return behind
+
+
+def one_then_other(one, other):
+    """The edit that does what one does and then what the other does."""
+    return Edit(one.old_size, [origin if is_new(origin) else one.origins[origin] for origin in other.origins])
+
+
+def taken_back(edit, old_text):
+    """The edit of the new text that makes old_text again."""
+    places = kept_places(edit)
+    origins = [new_origin(octet) if place is None else place for octet, place in zip(old_text, places)]
+    return Edit(len(edit.origins), origins)
+
+
+def led_over(edit, other, edit_first):
+    """The edit of the other's new text that makes the text on which both are done.
+
+    That text may be longer than an edit's may be: who calls this looks.
+    """
+    edit_kept = kept_places(edit)
+    other_kept = kept_places(other)
+    edit_new = new_places(edit)
+    other_new = new_places(other)
+    origins = []
+    for gap in range(edit.old_size + 1):
+        # Gap 0 is the beginning, and any other one is right behind the old byte before it.
+        if gap > 0 and edit_kept[gap - 1] is not None and other_kept[gap - 1] is not None:
+            origins.append(other_kept[gap - 1])
+        put = [edit.origins[at] for at in edit_new[gap]]
+        origins.extend(put + other_new[gap] if edit_first else other_new[gap] + put)
+    return Edit(len(other.origins), origins)
+
+
+def left_place(edit, g):
+    """The place behind the last kept old byte before g, or the beginning."""
+    place = 0
+    for at, origin in enumerate(edit.origins):
+        if not is_new(origin) and origin < g:
+            place = at + 1
+    return place
+
+
+def right_place(edit, g):
+    """The place before the first kept old byte from g on, or the end."""
+    for at, origin in enumerate(edit.origins):
+        if not is_new(origin) and origin >= g:
+            return at
+    return len(edit.origins)
+
+
+def are_same(one, other):
+    return one.old_size == other.old_size and one.origins == other.origins
+
+
 class Reader:
     """Goes through a line's numbers from its beginning, and only reads them."""
 
@@ -177,7 +253,77 @@ def answer_apply(slots, reader):
     return [0, len(text)] + text
 
 
-ANSWERS_OF_CALLS = {1: answer_set, 2: answer_look, 3: answer_items, 4: answer_bytes, 5: answer_apply}
+def answer_then(slots, reader):
+    one = edit_in(slots, reader.number())
+    other = edit_in(slots, reader.number())
+    k = reader.number()
+    if one is None or other is None or k >= SLOT_COUNT:
+        return [-1]
+    if len(one.origins) != other.old_size:
+        return [-2]
+    slots[k] = one_then_other(one, other)
+    return [0]
+
+
+def answer_back(slots, reader):
+    edit = edit_in(slots, reader.number())
+    k = reader.number()
+    old_text = reader.row()
+    if edit is None or k >= SLOT_COUNT:
+        return [-1]
+    if len(old_text) != edit.old_size:
+        return [-2]
+    slots[k] = taken_back(edit, old_text)
+    return [0]
+
+
+def answer_over(slots, reader):
+    edit = edit_in(slots, reader.number())
+    other = edit_in(slots, reader.number())
+    first = reader.number()
+    k = reader.number()
+    if edit is None or other is None or k >= SLOT_COUNT:
+        return [-1]
+    if edit.old_size != other.old_size:
+        return [-2]
+    led = led_over(edit, other, first != 0)
+    if len(led.origins) > LONGEST_TEXT:
+        return [-3]
+    slots[k] = led
+    return [0]
+
+
+def answer_place(slots, reader):
+    edit = edit_in(slots, reader.number())
+    g = reader.number()
+    right = reader.number()
+    if edit is None:
+        return [-1]
+    if g > edit.old_size:
+        return [-2]
+    return [0, right_place(edit, g) if right != 0 else left_place(edit, g)]
+
+
+def answer_same(slots, reader):
+    one = edit_in(slots, reader.number())
+    other = edit_in(slots, reader.number())
+    if one is None or other is None:
+        return [-1]
+    return [1 if are_same(one, other) else 0]
+
+
+ANSWERS_OF_CALLS = {
+    1: answer_set,
+    2: answer_look,
+    3: answer_items,
+    4: answer_bytes,
+    5: answer_apply,
+    6: answer_then,
+    7: answer_back,
+    8: answer_over,
+    9: answer_place,
+    10: answer_same,
+}
 
 
 def answers(calls):

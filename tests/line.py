@@ -26,6 +26,26 @@ def apply(i, octets=()):
     return [5, i, len(octets), *octets]
 
 
+def then(i, j, k):
+    return [6, i, j, k]
+
+
+def back(i, k, octets=()):
+    return [7, i, k, len(octets), *octets]
+
+
+def over(i, j, first, k):
+    return [8, i, j, first, k]
+
+
+def place(i, g, right):
+    return [9, i, g, right]
+
+
+def same(i, j):
+    return [10, i, j]
+
+
 def run(*calls):
     """The answers to a line of calls, one list a call."""
     given = answers([number for call in calls for number in call])
@@ -38,6 +58,11 @@ def run(*calls):
     if at != len(given) or len(taken) != len(calls):
         raise AssertionError(f"{len(calls)} calls answered by {given!r}")
     return taken
+
+
+def reading(i):
+    """Calls that tell slot i's edit whole."""
+    return [items(i), bytes_(i)]
 
 
 def readings():

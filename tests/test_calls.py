@@ -1,9 +1,9 @@
-"""The five calls at ordinary inputs, alone and one after another."""
+"""The calls at ordinary inputs, alone and one after another."""
 
 import unittest
 
 from editslots.slots import answers
-from tests.line import DROP, KEEP, PUT, apply, bytes_, items, look, run, set_
+from tests.line import DROP, KEEP, PUT, apply, back, bytes_, items, look, over, place, run, same, set_, then
 
 # "abcdef" becomes "abXYef".
 EDIT = [KEEP, 2, PUT, 2, DROP, 2, KEEP, 2]
@@ -29,8 +29,33 @@ class FormOfAnswers(unittest.TestCase):
         self.assertEqual(answers([5, 0, 2, 7, 7]), [1, -1])
         self.assertEqual(answers([1, 0, 1, 0, 0]), [1, -1])
 
+    def test_each_answer_of_the_later_five_has_its_length_before_it(self):
+        line = [1, 0, 4, 0, 1, 2, 1, 1, 88]
+        line += [1, 1, 4, 1, 1, 0, 1, 0]
+        line += [6, 0, 1, 2, 3, 2, 4, 2]
+        line += [7, 0, 3, 1, 97, 3, 3]
+        line += [1, 4, 4, 2, 1, 0, 1, 1, 89, 8, 4, 0, 0, 5, 3, 5, 4, 5]
+        line += [9, 5, 1, 0, 9, 5, 1, 1, 10, 0, 0, 10, 0, 1]
+        self.assertEqual(answers(line), [
+            1, 0,
+            1, 0,
+            1, 0, 5, 2, 2, 1, 1, 1, 3, 0, 1, 88,
+            1, 0, 5, 2, 0, 1, 1, 1,
+            1, 0, 1, 0, 5, 2, 2, 1, 0, 2, 3, 0, 1, 89,
+            2, 0, 2, 2, 0, 2, 1, 1, 1, 0,
+        ])
+
+    def test_a_refusal_of_the_later_five_is_its_number_alone(self):
+        self.assertEqual(answers([6, 0, 1, 2]), [1, -1])
+        self.assertEqual(answers([7, 0, 1, 3, 9, 9, 9]), [1, -1])
+        self.assertEqual(answers([8, 0, 1, 1, 2]), [1, -1])
+        self.assertEqual(answers([9, 0, 0, 1]), [1, -1])
+        self.assertEqual(answers([10, 0, 1]), [1, -1])
+
     def test_a_list_of_whole_numbers_is_given_back(self):
-        given = answers(set_(0, EDIT, b"XY") + look(0) + items(0) + bytes_(0) + apply(0, OLD))
+        line = set_(0, EDIT, b"XY") + look(0) + items(0) + bytes_(0) + apply(0, OLD)
+        line += then(0, 0, 1) + back(0, 1, OLD) + over(0, 1, 1, 1) + place(1, 0, 1) + same(0, 1) + items(1)
+        given = answers(line)
         self.assertIs(type(given), list)
         self.assertEqual({type(number) for number in given}, {int})
 
@@ -114,6 +139,46 @@ class OneAfterAnother(unittest.TestCase):
     def test_apply_is_done_on_the_text_that_it_is_given(self):
         given = run(set_(0, [DROP, 1, KEEP, 1], []), apply(0, b"ab"), apply(0, b"cd"), apply(0, b"ab"))
         self.assertEqual(given[1:], [[0, 1, 98], [0, 1, 100], [0, 1, 98]])
+
+
+class LaterFiveBehindOneAnother(unittest.TestCase):
+    def test_two_who_write_at_the_same_time(self):
+        # "abcdef": one replaces "cd" by "XY", the other puts "!" at the end and drops "a".
+        given = run(
+            set_(0, EDIT, b"XY"), set_(1, [DROP, 1, KEEP, 5, PUT, 1], b"!"),
+            over(1, 0, 0, 2), then(0, 2, 3), apply(3, OLD),
+            over(0, 1, 1, 4), then(1, 4, 5), apply(5, OLD),
+            same(3, 5), place(3, 3, 0), place(3, 3, 1),
+            back(3, 6, OLD), apply(6, b"bXYef!"), items(6), bytes_(6), look(6),
+        )
+        text = [0, 6, *b"bXYef!"]
+        self.assertEqual(given, [
+            [0], [0],
+            [0], [0], text,
+            [0], [0], text,
+            [1], [0, 1], [0, 3],
+            [0], [0, 6, *OLD], [6, PUT, 1, KEEP, 1, PUT, 2, DROP, 2, KEEP, 2, DROP, 1], [0, 3, *b"acd"], [0, 6, 6, 3],
+        ])
+
+    def test_one_takes_back_what_lies_under_anothers_edit(self):
+        # "ab" becomes "aXb", then "aXbZ"; taking back the first, led over the second, leaves "abZ".
+        given = run(
+            set_(0, [KEEP, 1, PUT, 1, KEEP, 1], b"X"), set_(1, [KEEP, 3, PUT, 1], b"Z"),
+            back(0, 2, b"ab"), over(2, 1, 0, 2), apply(2, b"aXbZ"), items(2),
+        )
+        self.assertEqual(given[2:], [[0], [0], [0, 3, *b"abZ"], [3, KEEP, 1, DROP, 1, KEEP, 2]])
+
+    def test_an_edit_made_by_a_call_is_set_anew(self):
+        given = run(set_(0, [KEEP, 1]), then(0, 0, 1), same(0, 1), set_(1, [DROP, 1]), same(0, 1), then(0, 1, 0),
+                    same(0, 1))
+        self.assertEqual(given, [[0], [0], [1], [0], [0], [0], [1]])
+
+    def test_all_eight_slots_are_written(self):
+        for k in range(8):
+            i = (k + 1) % 8
+            given = run(set_(i, [KEEP, 1]), then(i, i, k), look(k), set_(k, []), back(i, k, [1]), look(k),
+                        set_(k, []), over(i, i, 0, k), look(k))
+            self.assertEqual(given, [[0], [0], [0, 1, 1, 1]] * 3)
 
 
 class OldTextOfLengthNought(unittest.TestCase):

@@ -8,7 +8,9 @@ import unittest
 
 import editslots.slots
 from editslots.slots import answers
-from tests.line import DROP, KEEP, LARGEST, PUT, apply, bytes_, items, look, readings, run, set_
+from tests.line import (
+    DROP, KEEP, LARGEST, PUT, apply, back, bytes_, items, look, over, place, readings, run, same, set_, then,
+)
 
 PACKAGE = pathlib.Path(editslots.slots.__file__).parent
 
@@ -24,11 +26,15 @@ class Unchanging(list):
 
 
 def mixed_line():
-    """Calls of all five kinds, with refusals of each among them."""
+    """Calls of all ten kinds, with refusals of each among them."""
     calls = [
         set_(0, [DROP, 1, PUT, 2, DROP, 1, KEEP, 0, KEEP, 1], [0, 255]), look(0), items(0), bytes_(0),
         apply(0, [1, 2, 3]), apply(0, [1, 2]), apply(1, [1]), set_(1, []), items(1), look(LARGEST),
         set_(2, [3, 1]), set_(0, [KEEP]), set_(0, [KEEP, 1025]), set_(0, [KEEP, 0] * 2050), bytes_(2),
+        set_(3, [KEEP, 1, PUT, 1, DROP, 2], [7]), then(0, 0, 4), then(0, 9, 4), then(0, 3, 4), back(0, 5, [1, 2, 3]),
+        back(0, 5, [1]), back(6, 5), over(0, 3, 1, 6), over(3, 0, 0, 7), over(0, 1, 0, 0), over(0, 3, 0, 8),
+        set_(1, [PUT, 600], [1] * 600), over(1, 1, 0, 1), place(6, 1, 1), place(6, 1, 0), place(6, 9, 0),
+        place(8, 0, 0), same(0, 3), same(3, 3), same(8, 3), then(0, 4, 0), back(3, 3, [4, 5, 6]),
         *readings(),
     ]
     return [number for call in calls for number in call]
@@ -89,6 +95,27 @@ class LongLines(unittest.TestCase):
 
     def test_400_calls_that_are_refused(self):
         self.assertEqual(answers(look(8) * 400), [1, -1] * 400)
+        self.assertEqual(answers(then(8, 0, 0) * 400), [1, -1] * 400)
+
+    def test_400_calls_of_the_later_five(self):
+        # Each round puts one more new byte at the end of an edit that keeps one old byte.
+        calls = [set_(0, [KEEP, 1]), set_(1, [KEEP, 1, PUT, 1], [7])]
+        expected = [[0], [0]]
+        for n in range(1, 80):
+            calls += [over(1, 0, 0, 2), then(0, 2, 0), place(0, 1, 1), back(0, 3, [9]), same(0, 3)]
+            expected += [[0], [0], [0, n + 1], [0], [0]]
+        calls += [look(0), look(3), apply(0, [5])]
+        expected += [[0, 1, 80, 1], [0, 80, 1, 1], [0, 80, 5, *[7] * 79]]
+        self.assertEqual(len(calls), 400)
+        self.assertEqual(run(*calls), expected)
+
+    def test_400_calls_on_texts_of_1024(self):
+        calls = [set_(0, [KEEP, 1, DROP, 1, PUT, 1] * 512, [1] * 512)]
+        calls += [set_(1, [DROP, 1, PUT, 1, KEEP, 1] * 512, [2] * 512)]
+        calls += [then(0, 1, 2), over(0, 1, 1, 3), place(2, 512, 1), same(2, 3)] * 99 + [look(2), look(3)]
+        expected = [[0], [0]] + [[0], [0], [0, 1024], [0]] * 99 + [[0, 1024, 1024, 0], [0, 1024, 1024, 512]]
+        self.assertEqual(len(calls), 400)
+        self.assertEqual(run(*calls), expected)
 
     def test_30000_numbers(self):
         octets = [n % 256 for n in range(1024)]
@@ -97,6 +124,15 @@ class LongLines(unittest.TestCase):
         line = [number for call in fill + last for number in call]
         self.assertEqual(len(line), 30000)
         self.assertEqual(run(*fill, *last), [[0]] * 6 + [[0, 0, 344, 0]] * 10)
+
+    def test_30000_numbers_with_the_later_five(self):
+        text = [p % 256 for p in range(1024)]
+        start = [set_(0, [DROP, 1024, PUT, 1024], text[::-1])]
+        rounds = [back(0, 0, text), same(0, 0), place(0, 1024, 1)] * 27
+        end = [then(0, 0, 1), same(0, 1), over(0, 0, 0, 2), back(0, 2, [1] * 1007)]
+        self.assertEqual(sum(len(call) for call in start + rounds + end), 30000)
+        expected = [[0]] + [[0], [1], [0, 1024]] * 27 + [[0], [1], [-3], [-2]]
+        self.assertEqual(run(*start, *rounds, *end), expected)
 
 
 class NothingIsPrintedReadOrImported(unittest.TestCase):

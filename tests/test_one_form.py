@@ -4,27 +4,7 @@ import itertools
 import unittest
 
 from tests.line import DROP, KEEP, PUT, apply, bytes_, items, look, run, set_
-
-
-def pairs_of(numbers):
-    return list(zip(numbers[0::2], numbers[1::2]))
-
-
-def meaning(edit):
-    """An old text's length and what is said of each new byte, straight from the document's words."""
-    old_at = 0
-    put_at = 0
-    said = []
-    for kind, count in pairs_of(edit):
-        for step in range(count):
-            if kind == PUT:
-                said.append(("new", put_at))
-                put_at += 1
-            else:
-                if kind == KEEP:
-                    said.append(("old", old_at))
-                old_at += 1
-    return old_at, tuple(said)
+from tests.model import meaning, pairs_of
 
 
 def ways():
